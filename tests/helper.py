@@ -65,6 +65,58 @@ def open_box(k):
     return [13, k]
 
 
+def break_box(k):
+    return [14, k]
+
+
+def pay(p, k, n):
+    return [15, p, k, n]
+
+
+def credit(p):
+    return [16, p]
+
+
+def stock(k):
+    return [17, k]
+
+
+def off(k):
+    return [18, k]
+
+
+def pot():
+    return [19]
+
+
+def lots():
+    return [20]
+
+
+def worn():
+    return [21]
+
+
+def ledger():
+    return [22]
+
+
+def claims():
+    return [23]
+
+
+def back():
+    return [24]
+
+
+def again():
+    return [25]
+
+
+def state():
+    return [26]
+
+
 def one_by_one(told):
     lists = []
     at = 0
@@ -103,18 +155,26 @@ class MintCase(unittest.TestCase):
 
     def left_as_it_was(self, before, refused, number):
         """The refused call answers the number alone, and what is looked at behind it is as without it."""
-        looks = looks_at_all()
-        without = run(list(before) + looks)[len(before):]
-        with_it = run(list(before) + [refused] + looks)[len(before):]
-        self.assertEqual(with_it[0], [number], refused)
-        self.assertEqual(with_it[1:], without, refused)
+        for looks in (all_that_tells() + strikes_with_all(), agains_and_backs()):
+            without = run(list(before) + looks)[len(before):]
+            with_it = run(list(before) + [refused] + looks)[len(before):]
+            self.assertEqual(with_it[0], [number], refused)
+            self.assertEqual(with_it[1:], without, refused)
 
 
-def looks_at_all():
-    """Calls whose answers tell of kinds, dies, lots, the pot and boxes; the first of them change nothing."""
-    looks = []
+def all_that_tells():
+    """Every call that only tells, of every kind and person that there may be, and of one that can't be."""
+    looks = [pot(), lots(), worn(), ledger(), claims(), state()]
     for k in range(5):
-        looks += [fits(k), need(k), plan(k, 0), plan(k, 1000), enough(k), trial(k)]
+        looks += [fits(k), need(k), plan(k, 0), plan(k, 1000), enough(k), trial(k), stock(k), off(k)]
+    for p in range(7):
+        looks.append(credit(p))
+    return looks
+
+
+def strikes_with_all():
+    """Calls that change all there is, so that their answers tell what no other call does: how far dies are worn."""
+    looks = []
     for k in range(4):
         for number in range(7):
             looks.append(strike(k, number, [100] * 8))
@@ -125,3 +185,9 @@ def looks_at_all():
     for k in range(4):
         looks.append(need(k))
     return looks
+
+
+def agains_and_backs():
+    """All that can be done again, then all that can be taken back, step by step."""
+    short = [pot(), lots(), worn(), ledger(), claims(), state()] + [stock(k) for k in range(4)]
+    return ([again()] + short) * 4 + ([back()] + short) * 31

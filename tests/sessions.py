@@ -4,11 +4,12 @@ import random
 
 from tests.helper import TOP
 from tests.helper import begin, kind, die, bring, old, melt, add, fits, need, plan, strike, enough, trial, open_box
+from tests.helper import break_box, pay, credit, stock, off, pot, lots, worn, ledger, claims, back, again, state
 from tests.model import Model
 
 ODD = (0, 1, 2, 5, 6, 7, 8, 9, 24, 25, 100, 101, 500, 501, 1000, 1001, 1023, 1024, 10000, 10001, 100000, 100001,
        2000000, 2000001, TOP)
-HOW_MANY_NUMBERS = (1, 3, 2, 3, 3, 1, 2, 1, 1, 2, 0, 1, 1, 1)
+HOW_MANY_NUMBERS = (1, 3, 2, 3, 3, 1, 2, 1, 1, 2, 0, 1, 1, 1, 1, 3, 1, 1, 1, 0, 0, 0, 0, 0, 0, 0, 0)
 
 
 class Session:
@@ -42,8 +43,18 @@ class Session:
         turn = self.chance.random()
         if turn < 0.08 or not self.model.kinds:
             self.do(self.odd_call() if turn < 0.08 else self.fair_kind())
+        elif len(self.model.dies) < 2:
+            self.do(self.fair_die())
         elif turn < 0.2:
             self.make_fine_and_strike()
+        elif turn < 0.24:
+            self.go_back_and_forth()
+        elif turn < 0.28:
+            self.do(self.fair_melt())
+        elif turn < 0.29:
+            self.fill_places_or_pot()
+        elif turn < 0.34:
+            self.do(self.fair_pay(self.some_kind()))
         else:
             self.do(self.fair_call())
 
@@ -68,6 +79,39 @@ class Session:
         for turn in range(self.chance.randint(1, 9)):
             self.do(self.fair_strike(k))
 
+    def go_back_and_forth(self):
+        """Mostly all is done again, so that sessions come far; now and then something else is done first."""
+        steps = 33 if self.chance.random() < 0.05 else self.chance.choice((1, 1, 2, 3, 5, 8))
+        for turn in range(steps):
+            self.do(back())
+        if self.chance.random() < 0.2:
+            self.do(self.fair_call() if self.model.kinds else self.fair_kind())
+        for turn in range(self.chance.choice((1, steps - 1, steps, steps, steps + 1))):
+            self.do(again())
+
+    def fair_melt(self):
+        there = [place for place in range(10) if self.model.lots[place] is not None]
+        return melt(sum(1 << place for place in there if self.chance.random() < 0.5))
+
+    def fill_places_or_pot(self):
+        k = self.some_kind()
+        if self.chance.random() < 0.5:
+            for place in range(11):
+                self.do(old(self.chance.randrange(6), k, self.chance.randint(1, 300)))
+        else:
+            fine = self.model.kinds[k]["fine"]
+            while self.model.grains < 1900000:
+                self.do(add(fine * 4000, (24 - fine) * 4000))
+            self.do(add(0, 2000001 - self.model.grains))
+            self.do(add(0, 2000000 - self.model.grains))
+            self.do(break_box(k))
+
+    def fair_pay(self, k):
+        there = len(self.model.kinds[k]["stock"])
+        rich = [p for p in range(6) if self.model.owed(p) > 0]
+        p = self.chance.choice(rich) if rich and self.chance.random() < 0.8 else self.chance.randint(0, 6)
+        return pay(p, k, self.chance.choice((0, 1, 1, 2, 5, there, there, there + 1)))
+
     def fair_strike(self, k):
         grains = self.model.kinds[k]["grains"]
         remedy = self.model.kinds[k]["remedy"]
@@ -88,11 +132,13 @@ class Session:
                  lambda: add(chance.randint(0, 50), chance.randint(0, 50)),
                  lambda: fits(k), lambda: need(k), lambda: plan(k, chance.randint(0, 9000)),
                  lambda: plan(k, chance.choice((0, 2000000, 2000001))), lambda: self.fair_strike(k),
-                 lambda: enough(k), lambda: trial(k), lambda: open_box(k), self.fair_die)
+                 lambda: enough(k), lambda: trial(k), lambda: open_box(k), lambda: break_box(k), self.fair_die,
+                 lambda: credit(chance.randrange(7)), lambda: stock(k), lambda: off(k), pot, lots, worn, ledger, claims,
+                 back, again, state)
         return chance.choice(calls)()
 
     def odd_call(self):
-        call = self.chance.randrange(14)
+        call = self.chance.randrange(27)
         if call == 0 and self.chance.random() < 0.7:
             return self.fair_kind() if self.model.kinds else begin(TOP)
         if call == 10:

@@ -2,6 +2,7 @@
 
 from tests.helper import MintCase, TOP, run
 from tests.helper import begin, kind, die, bring, old, add, melt, fits, need, plan, strike, enough, trial, open_box
+from tests.helper import break_box, pay, credit, stock, off, all_that_tells
 
 
 class Begin(MintCase):
@@ -27,7 +28,7 @@ class Begin(MintCase):
             bring(0, 1000, 20000), kind(100, 20, 5), fits(0), need(0), trial(0), enough(0), die(0, 20), add(5, 1),
             strike(0, 0, [6]), trial(0), strike(0, 0, [100] * 8), melt(1), strike(0, 0, [100] * 8),
             strike(0, 0, [100] * 8), trial(0), strike(1, 0, [1]), strike(0, 1, [1]), melt(2),
-        ]
+        ] + all_that_tells()
         fresh = run([begin(30)] + later)
         again = run(busy_mint() + [begin(30)] + later)
         self.assertEqual(again[len(busy_mint()):], fresh)
@@ -52,11 +53,13 @@ class NotThere(MintCase):
                     (die(k, 0), [-2]), (die(k, TOP), [-2]), (old(0, k, 0), [-2]), (old(0, k, TOP), [-2]),
                     (fits(k), [-2]), (need(k), [-2]), (plan(k, 0), [-2]), (plan(k, TOP), [-2]),
                     (strike(k, 0, [100]), [-2]), (strike(k, 0, [100], n=0), [-2]), (enough(k), [-2]),
-                    (trial(k), [-2]), (open_box(k), [-2]))
+                    (trial(k), [-2]), (open_box(k), [-2]), (break_box(k), [-2]), (pay(0, k, 0), [-2]),
+                    (pay(0, k, TOP), [-2]), (stock(k), [-2]), (off(k), [-2]))
 
     def test_no_kind_at_all(self):
         self.answered([begin(0)], (die(0, 1), [-2]), (fits(0), [-2]), (need(0), [-2]), (plan(0, 0), [-2]),
-                      (enough(0), [-2]), (trial(0), [-2]), (open_box(0), [-2]), (old(0, 0, 1), [-2]))
+                      (enough(0), [-2]), (trial(0), [-2]), (open_box(0), [-2]), (old(0, 0, 1), [-2]),
+                      (break_box(0), [-2]), (pay(0, 0, 0), [-2]), (stock(0), [-2]), (off(0), [-2]))
 
     def test_a_die_that_is_not_there(self):
         before = [begin(0), kind(100, 20, 5), die(0, 9)]
@@ -65,10 +68,12 @@ class NotThere(MintCase):
 
     def test_people_are_0_to_5(self):
         before = [begin(0), kind(100, 20, 5)]
-        self.answered(before, (bring(5, 1, 1), [0, 1]), (old(5, 0, 1), [1, 20]))
+        self.answered(before, (bring(5, 1, 1), [0, 1]), (old(5, 0, 1), [1, 20]), (credit(5), [21]),
+                      (pay(5, 0, 1), [-12]))
         for p in (6, 7, TOP):
             self.answered(before, (bring(p, 1, 1), [-2]), (bring(p, 0, 1), [-2]), (bring(p, TOP, TOP), [-2]),
-                          (old(p, 0, 1), [-2]), (old(p, 0, 0), [-2]), (old(p, 1, 1), [-2]))
+                          (old(p, 0, 1), [-2]), (old(p, 0, 0), [-2]), (old(p, 1, 1), [-2]), (credit(p), [-2]),
+                          (pay(p, 0, 0), [-2]), (pay(p, 0, TOP), [-2]), (pay(p, 1, 1), [-2]))
 
     def test_none_is_there_is_told_ahead_of_no_room(self):
         full = [begin(0), kind(100, 20, 5)] + [bring(0, 1, 1)] * 10 + [die(0, 1)] * 6

@@ -1,7 +1,7 @@
-"""Promise 7: mi_trial and mi_open."""
+"""Promise 7: mi_trial, mi_open and mi_break."""
 
 from tests.helper import MintCase, TOP, run
-from tests.helper import begin, kind, die, add, strike, enough, trial, open_box
+from tests.helper import begin, kind, die, add, strike, fits, need, enough, trial, open_box, break_box, stock, pot, back
 
 
 def boxed(grains, remedy, weights):
@@ -99,3 +99,68 @@ class Open(MintCase):
         before = boxed(100, 6, [100] * 5)
         full = run(before + [open_box(0), strike(0, 0, [100] * 8), strike(0, 0, [100] * 8)])
         self.assertEqual(full[-3:], [[5], [8], [2]])
+
+
+class Break(MintCase):
+    def test_how_many_they_were(self):
+        self.answered(boxed(100, 6, [101]), (break_box(0), [1]), (trial(0), [-6]), (break_box(0), [-6]))
+        self.answered(boxed(100, 6, [101, 97, 100]), (break_box(0), [3]), (trial(0), [-6]), (break_box(0), [-6]))
+        self.answered(boxed(100, 6, [100] * 6), (break_box(0), [6]), (break_box(0), [-6]))
+
+    def test_its_coins_are_in_the_pot(self):
+        before = boxed(100, 6, [101, 97, 100])
+        self.answered(before, (pot(), [1997002, 1997002 * 24]), (break_box(0), [3]), (pot(), [1997300, 1997300 * 24]))
+
+    def test_the_stock_stays_and_so_does_what_was_ever_struck(self):
+        self.answered(boxed(100, 6, [101, 97]), (stock(0), [18, 1800, 2, 20]), (break_box(0), [2]),
+                      (stock(0), [18, 1800, 0, 20]))
+
+    def test_each_tenth_is_counted_on(self):
+        before = boxed(100, 6, [101]) + [break_box(0), strike(0, 0, [100] * 8)]
+        self.answered(before, (strike(0, 0, [100]), [1]), (trial(0), [-6]), (strike(0, 0, [102]), [1]),
+                      (trial(0), [1, 1, 102]))
+
+    def test_there_is_room_for_as_many_coins(self):
+        before = boxed(100, 6, [100] * 6)
+        self.answered(before, (strike(0, 0, [100] * 8), [0]), (break_box(0), [6]), (strike(0, 0, [100] * 8), [6]))
+
+    def test_whether_it_passes_or_not(self):
+        for weight in (94, 96, 97, 103, 104, 106):
+            self.answered(boxed(100, 6, [weight]), (break_box(0), [1]), (pot(), [1999100, 1999100 * 24]))
+
+    def test_as_metal_of_its_kind(self):
+        before = [begin(0), kind(100, 20, 5), die(0, 50), add(1000, 200), strike(0, 0, [100] * 8),
+                  strike(0, 0, [100, 103])]
+        self.answered(before + [add(0, 100)], (pot(), [297, 3940]), (fits(0), [0]), (break_box(0), [1]),
+                      (pot(), [400, 6000]), (need(0), [500, 500, 0]))
+        self.answered(before, (break_box(0), [1]), (fits(0), [1]))
+
+    def test_into_an_empty_pot(self):
+        before = [begin(0), kind(100, 7, 0), die(0, 50), add(7 * 50, 17 * 50), strike(0, 0, [100] * 8),
+                  strike(0, 0, [100] * 4)]
+        self.answered(before, (pot(), [0, 0]), (break_box(0), [1]), (pot(), [100, 700]))
+
+    def test_the_pot_just_full_and_one_above(self):
+        before = boxed(100, 6, [101])
+        self.answered(before + [add(0, 900)], (pot(), [1999899, 1998999 * 24]), (break_box(0), [1]),
+                      (pot(), [2000000, 1999100 * 24]))
+        self.answered(before + [add(0, 901)], (pot(), [1999900, 1998999 * 24]), (break_box(0), [-28]),
+                      (pot(), [1999900, 1998999 * 24]), (trial(0), [1, 1, 101]))
+        self.answered(before + [add(0, 1001)], (pot(), [2000000, 1998999 * 24]), (break_box(0), [-28]))
+
+    def test_each_kind_has_its_own_box(self):
+        before = [begin(0), kind(10, 24, 1), kind(20, 24, 1), die(0, 100), die(1, 100), add(5000, 0)]
+        before += [strike(0, 0, [10] * 8), strike(0, 0, [10] * 2), strike(1, 1, [20] * 8), strike(1, 1, [20] * 2)]
+        self.answered(before, (break_box(1), [1]), (trial(1), [-6]), (trial(0), [1, 1, 10]), (pot(), [4720, 113280]))
+
+    def test_which_refusal(self):
+        full = boxed(100, 6, [101]) + [add(1001, 0)]
+        self.answered([begin(0)], (break_box(0), [-2]))
+        self.answered(full, (break_box(2), [-2]), (break_box(4), [-2]), (break_box(TOP), [-2]), (break_box(1), [-6]),
+                      (break_box(0), [-28]))
+
+    def test_refused_leaves_all_as_it_was(self):
+        before = boxed(100, 6, [101]) + [add(901, 0), add(0, 1), back()]
+        self.left_as_it_was(before, break_box(0), -28)
+        self.left_as_it_was(before, break_box(1), -6)
+        self.left_as_it_was(before, break_box(2), -2)

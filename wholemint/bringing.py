@@ -1,22 +1,14 @@
-"""The calls that set up a mint and bring metal into it: mi_begin, mi_kind, mi_die, mi_bring, mi_old."""
+"""The calls that make kinds and dies and bring metal in: mi_kind, mi_die, mi_bring, mi_old."""
 
 from wholemint.refusals import NOT_THERE, NOT_AS_TOLD, NO_ROOM
 from wholemint.state import CARATS_OF_GOLD, PLACES, Metal, Kind, Die
 
-MOST_KEPT = 500
 MOST_KINDS = 4
 MOST_GRAINS_OF_COIN = 10000
 MOST_REMEDY = 100
 MOST_DIES = 6
 MOST_COINS_OF_DIE = 1000
 MOST_GRAINS_OF_LOT = 100000
-
-
-def begin(mint, keeps):
-    if keeps > MOST_KEPT:
-        return [NOT_AS_TOLD]
-    mint.begin_anew(keeps)
-    return [0]
 
 
 def is_kind_as_told(grains, fine, remedy):
@@ -64,7 +56,7 @@ def bring_old_coin(mint, p, k, grains):
         return [NOT_THERE]
     if not is_weight_of_lot(grains):
         return [NOT_AS_TOLD]
-    return take_in(mint, p, Metal(grains, mint.kinds[k].fine * grains))
+    return take_in(mint, p, mint.kinds[k].metal_of(grains))
 
 
 def first_empty_place(lots):
@@ -81,6 +73,7 @@ def take_in(mint, p, metal):
     kept = thousandths_rounded_up(metal.carats, mint.keeps)
     grows = metal.carats - kept
     mint.lots[place] = metal
+    mint.brought = mint.brought + metal.carats
     mint.kept = mint.kept + kept
     mint.credit[p] = mint.credit[p] + grows
     return [place, grows]

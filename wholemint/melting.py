@@ -2,11 +2,10 @@
 
 from wholemint.needs import gold_by_rest, find_need, find_plan
 from wholemint.refusals import NOT_THERE, NOT_AS_TOLD, NO_ROOM, NOT_TO_BE_DONE
-from wholemint.state import CARATS_OF_GOLD, PLACES, Metal
+from wholemint.state import CARATS_OF_GOLD, PLACES, MOST_IN_POT, Metal
 
 MOST_BITS = 1023
 MOST_ADDED = 100000
-MOST_IN_POT = 2000000
 
 
 def places_of(bits):
@@ -35,10 +34,12 @@ def add_metal(mint, gold, copper):
         return [NOT_AS_TOLD]
     if gold > MOST_ADDED or copper > MOST_ADDED:
         return [NOT_AS_TOLD]
-    pot = mint.pot.together_with(Metal(gold + copper, CARATS_OF_GOLD * gold))
+    metal = Metal(gold + copper, CARATS_OF_GOLD * gold)
+    pot = mint.pot.together_with(metal)
     if pot.grains > MOST_IN_POT:
         return [NO_ROOM]
     mint.pot = pot
+    mint.added = mint.added + metal.carats
     return [pot.grains]
 
 

@@ -1,8 +1,9 @@
-"""What a mint has: metal, kinds of coins, dies, and what it owes to people."""
+"""What a mint has: metal, kinds of coins, dies, what it owes to people, and what it has counted."""
 
 CARATS_OF_GOLD = 24
 PLACES = 10
 PEOPLE = 6
+MOST_IN_POT = 2000000
 
 
 class Metal:
@@ -36,6 +37,16 @@ class Kind:
         self.stock = []
         self.box = []
 
+    def metal_of(self, grains):
+        return Metal(grains, self.fine * grains)
+
+    def another_alike(self):
+        other = Kind(self.grains, self.fine, self.remedy)
+        other.struck = self.struck
+        other.stock = list(self.stock)
+        other.box = list(self.box)
+        return other
+
 
 class Die:
     """A die of the kind with that number, and how many coins it strikes yet."""
@@ -44,14 +55,14 @@ class Die:
         self.kind = kind
         self.left = left
 
+    def another_alike(self):
+        return Die(self.kind, self.left)
+
 
 class Mint:
-    """All that the calls read and change."""
+    """All that the calls read and change; what was brought, added, paid, kept and lessened is in carats."""
 
-    def __init__(self):
-        self.begin_anew(0)
-
-    def begin_anew(self, keeps):
+    def __init__(self, keeps):
         self.keeps = keeps
         self.kinds = []
         self.dies = []
@@ -59,6 +70,27 @@ class Mint:
         self.pot = Metal(0, 0)
         self.credit = [0 for person in range(PEOPLE)]
         self.kept = 0
+        self.lessened = 0
+        self.brought = 0
+        self.added = 0
+        self.paid = 0
+
+    def another_alike(self):
+        other = Mint(self.keeps)
+        other.kinds = [kind.another_alike() for kind in self.kinds]
+        other.dies = [die.another_alike() for die in self.dies]
+        other.lots = list(self.lots)
+        other.pot = self.pot
+        other.credit = list(self.credit)
+        other.kept = self.kept
+        other.lessened = self.lessened
+        other.brought = self.brought
+        other.added = self.added
+        other.paid = self.paid
+        return other
+
+    def count_lots(self):
+        return len([lot for lot in self.lots if not lot.is_none()])
 
     def has_kind(self, k):
         return k < len(self.kinds)

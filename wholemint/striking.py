@@ -1,7 +1,7 @@
-"""The calls on coins and boxes: mi_strike, mi_enough, mi_trial, mi_open."""
+"""The calls on blanks and boxes: mi_strike, mi_enough, mi_trial, mi_open, mi_break."""
 
-from wholemint.refusals import NOT_THERE, BOX_EMPTY, OTHER_KIND, NOT_AS_TOLD, NOT_TO_BE_DONE, NOT_AS_FINE
-from wholemint.state import Metal
+from wholemint.refusals import NOT_THERE, BOX_EMPTY, OTHER_KIND, NOT_AS_TOLD, NO_ROOM, NOT_TO_BE_DONE, NOT_AS_FINE
+from wholemint.state import MOST_IN_POT
 
 MOST_BLANKS = 8
 MOST_COINS_OF_KIND = 60
@@ -17,7 +17,7 @@ def can_be_struck(pot, kind, die, weight):
 
 
 def strike_blank(mint, kind, die, weight):
-    mint.pot = mint.pot.less(Metal(weight, kind.fine * weight))
+    mint.pot = mint.pot.less(kind.metal_of(weight))
     die.left = die.left - 1
     kind.struck = kind.struck + 1
     if kind.struck % EACH_TENTH == 0:
@@ -77,5 +77,20 @@ def put_box_in_stock(mint, k):
         return [NOT_TO_BE_DONE]
     coins = len(kind.box)
     kind.stock.extend(kind.box)
+    kind.box = []
+    return [coins]
+
+
+def put_box_in_pot(mint, k):
+    if not mint.has_kind(k):
+        return [NOT_THERE]
+    kind = mint.kinds[k]
+    if len(kind.box) == 0:
+        return [BOX_EMPTY]
+    pot = mint.pot.together_with(kind.metal_of(sum(kind.box)))
+    if pot.grains > MOST_IN_POT:
+        return [NO_ROOM]
+    coins = len(kind.box)
+    mint.pot = pot
     kind.box = []
     return [coins]
